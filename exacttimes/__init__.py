@@ -1,0 +1,1 @@
+"""Played: what's written, in exact time."""

@@ -1,0 +1,158 @@
+"""The score: what is written of a piece so far, and which additions it refuses."""
+
+NOT_AS_TOLD = -1
+IN_COMMON = -3
+TOO_MANY = -5
+
+LAST_TICK = 1000000
+GREATEST_QUARTER = 960
+LONGEST_QUARTER = 10000000
+GREATEST_SHARE = 20
+GREATEST_VOICE = 15
+GREATEST_PITCH = 127
+GREATEST_LOUDNESS = 127
+GREATEST_PART = 100
+
+MOST_MARKS = 50
+MOST_SPANS = 30
+MOST_NOTES = 200
+
+FIRST_TICKS = 480
+FIRST_LENGTH = 500000
+
+
+# From its tick on a quarter lasts length; even is 1 where that goes in a straight line to the next mark's.
+class Mark:
+    def __init__(self, tick, length, even):
+        self.tick = tick
+        self.length = length
+        self.even = even
+
+
+# From first up to, but not with, last each pair of ticks is shared out as a to b.
+class Swing:
+    def __init__(self, first, last, pair, a, b):
+        self.first = first
+        self.last = last
+        self.pair = pair
+        self.a = a
+        self.b = b
+
+
+# It is down from first up to, but not with, last.
+class Pedal:
+    def __init__(self, first, last):
+        self.first = first
+        self.last = last
+
+
+# Here first is its first tick; tied is 1 or 0.
+class Note:
+    def __init__(self, voice, pitch, first, length, loudness, part, tied):
+        self.voice = voice
+        self.pitch = pitch
+        self.first = first
+        self.length = length
+        self.loudness = loudness
+        self.part = part
+        self.tied = tied
+
+
+def mark_tick(mark):
+    return mark.tick
+
+
+def mark_is_as_told(mark):
+    return mark.tick <= LAST_TICK and 1 <= mark.length <= LONGEST_QUARTER
+
+
+# A span is a swing or a pedal: both go from first up to, but not with, last.
+def span_is_as_told(span):
+    return span.first < span.last <= LAST_TICK
+
+
+def pairs_fit(swing):
+    # The least pair is asked for first: a pair of 0 is even, but nothing can be divided by it.
+    if swing.pair < 2 or swing.pair % 2 != 0:
+        return False
+    return (swing.last - swing.first) % swing.pair == 0
+
+
+def swing_is_as_told(swing):
+    if not span_is_as_told(swing) or not pairs_fit(swing):
+        return False
+    return 1 <= swing.a <= GREATEST_SHARE and 1 <= swing.b <= GREATEST_SHARE
+
+
+def note_is_as_told(note):
+    if note.voice > GREATEST_VOICE or note.pitch > GREATEST_PITCH:
+        return False
+    if note.length < 1 or note.first + note.length > LAST_TICK:
+        return False
+    return 1 <= note.loudness <= GREATEST_LOUDNESS and 1 <= note.part <= GREATEST_PART
+
+
+def has_tick_in_common(span, others):
+    for other in others:
+        # A last tick is not the span's own, so one may begin where another ends.
+        if span.first < other.last and other.first < span.last:
+            return True
+    return False
+
+
+# Swings and pedals are refused alike once their own numbers are as told.
+def add_span(spans, span):
+    if has_tick_in_common(span, spans):
+        return IN_COMMON
+    if len(spans) >= MOST_SPANS:
+        return TOO_MANY
+    spans.append(span)
+    return len(spans)
+
+
+# Marks are kept in the order of their ticks, since one's length may go to the next one's;
+# notes in the order in which they were told, since that is how they are numbered.
+class Score:
+    def __init__(self):
+        self.clear_to(FIRST_TICKS)
+
+    def clear_to(self, ticks):
+        self.ticks = ticks
+        self.marks = [Mark(0, FIRST_LENGTH, 0)]
+        self.swings = []
+        self.pedals = []
+        self.notes = []
+
+    def begin(self, ticks):
+        if not 1 <= ticks <= GREATEST_QUARTER:
+            return NOT_AS_TOLD
+        self.clear_to(ticks)
+        return 0
+
+    def add_mark(self, mark):
+        if not mark_is_as_told(mark):
+            return NOT_AS_TOLD
+        marks = [other for other in self.marks if other.tick != mark.tick]
+        if len(marks) >= MOST_MARKS:
+            return TOO_MANY
+        marks.append(mark)
+        self.marks = sorted(marks, key=mark_tick)
+        return len(marks)
+
+    def add_swing(self, swing):
+        if not swing_is_as_told(swing):
+            return NOT_AS_TOLD
+        return add_span(self.swings, swing)
+
+    def add_pedal(self, pedal):
+        if not span_is_as_told(pedal):
+            return NOT_AS_TOLD
+        return add_span(self.pedals, pedal)
+
+    def add_note(self, note):
+        if not note_is_as_told(note):
+            return NOT_AS_TOLD
+        if len(self.notes) >= MOST_NOTES:
+            return TOO_MANY
+        self.notes.append(note)
+        return len(self.notes) - 1
