@@ -37,13 +37,13 @@ def answer_call(score, call, numbers):
     if call == BEGINS:
         return [score.begin(numbers[0])]
     if call == MARK:
-        return [score.add_mark(read_mark(numbers))]
+        return [score.put_mark(read_mark(numbers))]
     if call == SWING:
-        return [score.add_swing(read_swing(numbers))]
+        return [score.put_swing(read_swing(numbers))]
     if call == PEDAL:
-        return [score.add_pedal(read_pedal(numbers))]
+        return [score.put_pedal(read_pedal(numbers))]
     if call == NOTE:
-        return [score.add_note(read_note(numbers))]
+        return [score.put_note(read_note(numbers))]
     raise KeyError(call)
 
 

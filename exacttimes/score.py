@@ -101,7 +101,7 @@ def has_tick_in_common(span, others):
 
 
 # Swings and pedals are refused alike once their own numbers are as told.
-def add_span(spans, span):
+def put_span(spans, span):
     if has_tick_in_common(span, spans):
         return IN_COMMON
     if len(spans) >= MOST_SPANS:
@@ -129,7 +129,7 @@ class Score:
         self.clear_to(ticks)
         return 0
 
-    def add_mark(self, mark):
+    def put_mark(self, mark):
         if not mark_is_as_told(mark):
             return NOT_AS_TOLD
         marks = [other for other in self.marks if other.tick != mark.tick]
@@ -139,17 +139,17 @@ class Score:
         self.marks = sorted(marks, key=mark_tick)
         return len(marks)
 
-    def add_swing(self, swing):
+    def put_swing(self, swing):
         if not swing_is_as_told(swing):
             return NOT_AS_TOLD
-        return add_span(self.swings, swing)
+        return put_span(self.swings, swing)
 
-    def add_pedal(self, pedal):
+    def put_pedal(self, pedal):
         if not span_is_as_told(pedal):
             return NOT_AS_TOLD
-        return add_span(self.pedals, pedal)
+        return put_span(self.pedals, pedal)
 
-    def add_note(self, note):
+    def put_note(self, note):
         if not note_is_as_told(note):
             return NOT_AS_TOLD
         if len(self.notes) >= MOST_NOTES:
