@@ -84,10 +84,14 @@ def swing_is_as_told(swing):
     return 1 <= swing.a <= GREATEST_SHARE and 1 <= swing.b <= GREATEST_SHARE
 
 
+def note_end(note):
+    return note.first + note.length
+
+
 def note_is_as_told(note):
     if note.voice > GREATEST_VOICE or note.pitch > GREATEST_PITCH:
         return False
-    if note.length < 1 or note.first + note.length > LAST_TICK:
+    if note.length < 1 or note_end(note) > LAST_TICK:
         return False
     return 1 <= note.loudness <= GREATEST_LOUDNESS and 1 <= note.part <= GREATEST_PART
 
@@ -108,6 +112,23 @@ def put_span(spans, span):
         return TOO_MANY
     spans.append(span)
     return len(spans)
+
+
+def later_mark(mark, ticks):
+    return Mark(mark.tick + ticks, mark.length, mark.even)
+
+
+def later_swing(swing, ticks):
+    return Swing(swing.first + ticks, swing.last + ticks, swing.pair, swing.a, swing.b)
+
+
+def later_pedal(pedal, ticks):
+    return Pedal(pedal.first + ticks, pedal.last + ticks)
+
+
+def later_note(note, ticks):
+    first = note.first + ticks
+    return Note(note.voice, note.pitch, first, note.length, note.loudness, note.part, note.tied)
 
 
 # Marks are kept in the order of their ticks, since one's length may go to the next one's;
@@ -156,3 +177,24 @@ class Score:
             return TOO_MANY
         self.notes.append(note)
         return len(self.notes) - 1
+
+    def farthest_tick(self):
+        ticks = [mark.tick for mark in self.marks]
+        ticks.extend([span.last for span in self.swings + self.pedals])
+        ticks.extend([note_end(note) for note in self.notes])
+        return max(ticks)
+
+    def move(self, ticks):
+        if self.farthest_tick() + ticks > LAST_TICK:
+            return NOT_AS_TOLD
+        if ticks == 0:
+            return 0
+        # The mark that comes to stand at 0 is one more: the one that stood there is later now.
+        if len(self.marks) >= MOST_MARKS:
+            return TOO_MANY
+        first = Mark(0, self.marks[0].length, 0)
+        self.marks = [first] + [later_mark(mark, ticks) for mark in self.marks]
+        self.swings = [later_swing(swing, ticks) for swing in self.swings]
+        self.pedals = [later_pedal(pedal, ticks) for pedal in self.pedals]
+        self.notes = [later_note(note, ticks) for note in self.notes]
+        return 0

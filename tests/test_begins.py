@@ -4,7 +4,7 @@ import unittest
 
 from line import (
     AT_BEGINNING, FULL_OF_MARKS, FULL_OF_PEDALS, FULL_OF_SWINGS, GREATEST,
-    asked, asked_last, begins, laid_open, mark, note, pedal, swing,
+    asked, asked_last, at, begins, events, laid_open, mark, moved, note, pedal, sounds, swing, time,
 )
 
 SOME_OF_ALL = [
@@ -54,3 +54,19 @@ class BeginsTest(unittest.TestCase):
                 self.assertEqual(asked_last(*refused, swing(0, 2)), [-3])
                 self.assertEqual(asked_last(*refused, pedal(479, 481)), [-3])
                 self.assertEqual(asked_last(*refused, note()), [2])
+
+    def test_after_every_other_call(self):
+        asking = [time(5), time(1000000), at(7777), at(GREATEST), sounds(), events()]
+        line = [*SOME_OF_ALL, *asking, moved(7), *asking, moved(0), time(1000001), moved(1000001)]
+        again = [mark(960, 300000), note(first=3), sounds(), events(), moved(2), *asking]
+        for ticks in (1, 96, 480, 960):
+            with self.subTest(ticks=ticks):
+                self.assertEqual(laid_open(*line, begins(ticks)), dict(AT_BEGINNING, ticks=ticks))
+                expected = asked(begins(ticks), *asking, *again)
+                self.assertEqual(asked(*line, begins(ticks), *asking, *again)[-len(expected):], expected)
+
+    def test_there_is_nothing_to_be_played_then(self):
+        line = [*SOME_OF_ALL, moved(7), begins(480)]
+        self.assertEqual(asked(*line, sounds(), events(), time(480), at(500000))[-4:], [
+            [0], [0], [0, 3, 500000, 0, 1], [480],
+        ])
